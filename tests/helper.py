@@ -103,6 +103,42 @@ def mixed_program(seed, many=120):
     return program
 
 
+def rows_photo(names, links):
+    """A photo of rows alone: which thing a name holds, and which ones each row holds, by rising places."""
+    things = []
+    for number in sorted(links):
+        parts = [(place, thing(held)) for place, held in enumerate(links[number])]
+        things.append((number, "row", parts, 1 + len(parts)))
+    return ([thing(names[name]) if name in names else None for name in NAMES], things)
+
+
+def mixed_photos(many):
+    """Photos of plain heaps behind mixed programs of several lengths."""
+    return [done(Plain(), *mixed_program(seed, 20 + 10 * (seed % 11))).photo() for seed in range(many)]
+
+
+def mixed_rows_photo(seed):
+    """A photo of few rows that hold one another in many ways, rings among them; all are in reach."""
+    numbers = Numbers(seed)
+    many = 1 + numbers.below(12)
+    links = {number: [numbers.below(many) for _ in range(numbers.below(4))] for number in range(many)}
+    names = {name: numbers.below(many) for name in NAMES if numbers.below(8) == 0}
+    names["s"] = 0
+    reach = come_to(rows_photo(names, links), None)
+    return rows_photo(names, {number: links[number] for number in reach})
+
+
+def come_to(photo, without):
+    """The numbers of all that can be come to by ways without a thing, found by going over all until no more come."""
+    found, before = {value[1] for value in photo[0] if isinstance(value, tuple)} - {without}, None
+    while found != before:
+        before = set(found)
+        for number, kind, parts, _ in photo[1]:
+            if number in found and kind != "watch":
+                found |= {value[1] for _, value in parts if isinstance(value, tuple)} - {without}
+    return found
+
+
 class Case(unittest.TestCase):
     """A test case that compares what deeds tell."""
 

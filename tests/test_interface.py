@@ -2,10 +2,13 @@
 
 import unittest
 
+import whokeeps.compared as compared
 import whokeeps.errors as errors
+import whokeeps.keepers as keepers
 import whokeeps.machines as machines
+import whokeeps.notes as notes
 import whokeeps.plain as plain
-from tests.helper import Case
+from tests.helper import Case, rows_photo
 
 
 class Interface(Case):
@@ -20,14 +23,33 @@ class Interface(Case):
                 self.assertIn(name, vars(owner))
 
     def test_each_name_is_defined_in_its_file(self):
-        for module, name in ((plain, "Plain"), (plain, "run"), (machines, "Machine"), (machines, "run_by")):
-            self.assertEqual(getattr(module, name).__module__, module.__name__)
+        listed = {
+            plain: ("Plain", "run"),
+            machines: ("Machine", "run_by"),
+            keepers: ("way", "keeps", "masters", "totals", "total"),
+            compared: ("compared", "growing", "leak"),
+            notes: ("written", "read"),
+        }
+        for module, names in listed.items():
+            for name in names:
+                self.assertEqual(getattr(module, name).__module__, module.__name__)
 
     def test_arguments_have_their_names(self):
         self.assertEqual(plain.run(program=[("settle",)]), [[]])
         self.assertEqual(machines.run_by(program=[("settle",)], young=1, steps=[0]), [[]])
         self.assertEqual(machines.Machine(young=1, steps=[0]).do(deed=("say", "p")), None)
         self.assertEqual(plain.Plain().do(deed=("say", "p")), None)
+        photo = rows_photo({"p": 0}, {0: []})
+        self.assertEqual(keepers.way(photo=photo, number=0), ["p"])
+        self.assertEqual(keepers.keeps(photo=photo, number=0), [0])
+        self.assertEqual(keepers.total(photo=photo, number=0), 1)
+        self.assertEqual(keepers.masters(photo=photo), [(0, None)])
+        self.assertEqual(keepers.totals(photo=photo), [(0, 1)])
+        self.assertEqual(compared.compared(before=photo, after=photo), ([], [], []))
+        self.assertEqual(len(compared.growing(first=[], again=[], many=2)), 2)
+        self.assertEqual(compared.leak(photos=[photo, photo]), [])
+        self.assertEqual(notes.written(program=[("settle",)]), "settle")
+        self.assertEqual(notes.read(text="settle"), [("settle",)])
 
 
 class Errors(Case):
