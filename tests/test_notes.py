@@ -38,12 +38,13 @@ PAIRS = [
 NO_ROWS = [
     # Words, parts and how many of them.
     "", " ", "x", "Say p", "SAY p", "says p", "say", "say x", "say P", "say p q", "say pq", "say -", "say 0",
-    "settle p", "settle -", "settle settle", "p", "-", "make p", "make p none", "make p watch", "make p Record", "make record p",
-    "make p record q", "make x record", "copy p", "copy p q r", "copy p x", "copy p 1", "copy p -", "drop", "drop p q",
-    "drop -", "watch p", "watch p q r", "watch p 0", "ask p", "ask q p p", "last p", "last p p p", "last p x",
-    "last p None", "last p --", "last p 0", "last - p", "last p - -", "put p a", "put p a q r", "put p e q",
-    "put a p q", "put p p q", "put p - q", "put p a -", "take q p", "take q 3 p", "take q p e", "take q p -", "cut p", "cut p e",
-    "cut p a q", "cut p ab", "num p", "num p q", "num p a", "num p 1 2", "num p -", "num 1 p",
+    "settle p", "settle -", "settle settle", "p", "-", "make p", "make p none", "make p watch", "make p Record",
+    "make record p", "make p record q", "make x record", "copy p", "copy p q r", "copy p x", "copy p 1",
+    "copy p -", "drop", "drop p q", "drop -", "watch p", "watch p q r", "watch p 0", "ask p", "ask q p p",
+    "last p", "last p p p", "last p x", "last p None", "last p --", "last p 0", "last - p", "last p - -",
+    "put p a", "put p a q r", "put p e q", "put a p q", "put p p q", "put p - q", "put p a -", "take q p",
+    "take q 3 p", "take q p e", "take q p -", "cut p", "cut p e", "cut p a q", "cut p ab", "num p", "num p q",
+    "num p a", "num p 1 2", "num p -", "num 1 p",
     # Needless figures and numbers beyond their bounds.
     "num p 07", "num p 00", "num p +1", "num p -0", "num p -1", "num p +0", "num p 100", "num p 099", "num p 1.0",
     "num p 1_0", "num p 0x1", "num p " + "9" * 5000, "cut p 10", "cut p 00", "cut p 03", "cut p -1", "cut p +1",
